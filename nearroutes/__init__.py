@@ -1,0 +1,1 @@
+"""Routes learned from neighbours."""
