@@ -1,6 +1,7 @@
 """Addresses and the networks they are of; a network is a tuple (address, bits)."""
 
 ADDRESS_BITS = 32
+LAST_ADDRESS = 0xFFFFFFFF
 LAST_HOST = 0xFFFFFFFE
 
 

@@ -6,9 +6,12 @@ BEGIN = 0
 LINK = 1
 DOWN = 2
 HEAR = 3
+TICK = 4
+WAY = 5
+ROUTES = 6
 
-# How many whole numbers a call has, its rows left out, by the call's number.
-NUMBERS_OF_CALL = (1, 3, 1, 2)
+# How many whole numbers a call has, its rows left out, by the call's number; the last one is due's.
+NUMBERS_OF_CALL = (1, 3, 1, 2, 1, 1, 0, 0)
 
 
 class Reader:
@@ -44,7 +47,15 @@ def answer_next(session, reader):
         return [session.bring_up(numbers[0], numbers[1], numbers[2])]
     if which == DOWN:
         return [session.take_down(numbers[0])]
-    return [session.hear(numbers[0], numbers[1], octets)]
+    if which == HEAR:
+        return [session.hear(numbers[0], numbers[1], octets)]
+    if which == TICK:
+        return session.tick(numbers[0])
+    if which == WAY:
+        return session.way(numbers[0])
+    if which == ROUTES:
+        return session.routes()
+    return session.due()
 
 
 def answers(calls):

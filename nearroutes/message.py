@@ -15,6 +15,10 @@ def number_from(octets):
     return number
 
 
+def octets_of(number, many):
+    return [number >> 8 * place & 255 for place in range(many - 1, -1, -1)]
+
+
 # None where the eight octets are no offer, else a tuple (network, far).
 def offer_from(octets):
     address = number_from(octets[:4])
@@ -43,3 +47,16 @@ def offers_from(octets):
             return None
         offers.append(offer)
     return offers
+
+
+def message_of(offers):
+    octets = octets_of(len(offers), HEAD_SIZE)
+    for network, far in offers:
+        octets.extend(octets_of(network[0], 4))
+        octets.extend([network[1], far, 0, 0])
+    return octets
+
+
+# As many messages as the offers, tuples (network, far), need: none for none.
+def messages_of(offers):
+    return [message_of(offers[at:at + MOST_OFFERS]) for at in range(0, len(offers), MOST_OFFERS)]

@@ -29,6 +29,16 @@ class Route:
     def is_by(self, link, neighbour):
         return self.link == link and self.neighbour == neighbour
 
+    def is_forgotten(self, now):
+        return not self.is_in_reach() and now >= self.forgotten_at
+
+    def is_outdated(self, now):
+        return self.is_in_reach() and not self.is_own() and now >= self.good_till
+
+    # When time alone forgets or loses it; a link's own has no such time and isn't asked.
+    def ends_at(self):
+        return self.good_till if self.is_in_reach() else self.forgotten_at
+
     def course(self):
         return (self.far, self.link, self.neighbour)
 
@@ -41,6 +51,12 @@ class Route:
         self.free_from = now + HELD_FOR
         self.forgotten_at = now + KEPT_FOR
         self.changed = True
+
+    # A link's neighbours must never take a way back to themselves for one that leads on.
+    def far_told_on(self, link):
+        if self.link == link:
+            return OUT_OF_REACH
+        return min(self.far + 1, OUT_OF_REACH)
 
     # Another neighbour's word on a lost route may be an echo of the route that was
     # lost, so it counts only after a while.

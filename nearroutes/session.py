@@ -1,7 +1,8 @@
 """The calls on one object: its time, its links and its routes."""
 
-from nearroutes.address import is_host, is_of, network_of
-from nearroutes.message import offers_from
+from nearroutes.address import LAST_ADDRESS, is_host, is_of, network_of
+from nearroutes.message import messages_of, offers_from
+from nearroutes.route import NO_NEIGHBOUR
 from nearroutes.table import Table
 
 LAST_LINK = 3
@@ -9,6 +10,7 @@ MOST_LINK_BITS = 31
 # 2 to the 62nd: a time is below it.
 TIME_END = 0x4000000000000000
 ALL_TOLD_EVERY = 30000
+CHANGES_TOLD_EVERY = 1000
 
 
 # A link that is up.
@@ -18,6 +20,8 @@ class Port:
         self.network = network
 
 
+# begin, bring_up, take_down and hear answer one number; tick, way, routes and due a list
+# of numbers.
 class Session:
     def __init__(self):
         self.begun = False
@@ -86,3 +90,51 @@ class Session:
         for network, far in offers:
             self.table.offer(network, far, i, neighbour, self.now)
         return len([network for network in before if self.table.course_to(network) != before[network]])
+
+    def tick(self, now):
+        if now < self.now or now >= TIME_END:
+            return [-1]
+        self.now = now
+        self.table.forget_old(now)
+        self.table.lose_outdated(now)
+        if now >= self.all_told_at:
+            self.all_told_at = now + ALL_TOLD_EVERY
+            return self.tell(self.table.in_order())
+        if now >= self.changes_told_from and self.table.has_changed():
+            return self.tell(self.table.changed_in_order())
+        return [0]
+
+    # What is told of all routes tells of those that have changed, too.
+    def tell(self, routes_told):
+        many = 0
+        sent = []
+        for i, port in enumerate(self.ports):
+            if port is not None:
+                for octets in messages_of([(network, route.far_told_on(i)) for network, route in routes_told]):
+                    many = many + 1
+                    sent.extend([i, len(octets)] + octets)
+        self.table.mark_unchanged()
+        self.changes_told_from = self.now + CHANGES_TOLD_EVERY
+        return [many] + sent
+
+    def way(self, address):
+        if address > LAST_ADDRESS:
+            return [-1]
+        route = self.table.route_to(address)
+        if route is None:
+            return [-2]
+        neighbour = address if route.neighbour == NO_NEIGHBOUR else route.neighbour
+        return [route.far, route.link, neighbour]
+
+    def routes(self):
+        in_order = self.table.in_order()
+        listed = [len(in_order)]
+        for network, route in in_order:
+            listed.extend([network[0], network[1], route.far, route.link, route.neighbour])
+        return listed
+
+    def due(self):
+        times = self.table.ends() + [self.all_told_at]
+        if self.table.has_changed():
+            times.append(max(self.changes_told_from, self.now))
+        return [0, min(times)]

@@ -1,5 +1,6 @@
 """All routes, one for each network."""
 
+from nearroutes.address import is_of
 from nearroutes.route import NO_NEIGHBOUR, OUT_OF_REACH, Route
 
 MOST_ROUTES = 256
@@ -20,6 +21,30 @@ class Table:
         route = self.by_network.get(network)
         return None if route is None else route.course()
 
+    # Tuples (network, route), by the address, then by the bits.
+    def in_order(self):
+        return [(network, self.by_network[network]) for network in sorted(self.by_network)]
+
+    def changed_in_order(self):
+        return [(network, route) for network, route in self.in_order() if route.changed]
+
+    def has_changed(self):
+        return any([route.changed for route in self.by_network.values()])
+
+    # When time alone forgets or loses each route but the links' own.
+    def ends(self):
+        return [route.ends_at() for route in self.by_network.values() if not route.is_own()]
+
+    # None where no route in reach leads to the address.
+    def route_to(self, address):
+        narrowest = None
+        most_bits = -1
+        for network, route in self.by_network.items():
+            if route.is_in_reach() and network[1] > most_bits and is_of(address, network):
+                narrowest = route
+                most_bits = network[1]
+        return narrowest
+
     def put_own(self, network, link, now):
         self.by_network[network] = Route(0, link, NO_NEIGHBOUR, now)
 
@@ -27,6 +52,22 @@ class Table:
         for route in self.by_network.values():
             if route.link == link and route.is_in_reach():
                 route.lose(now)
+
+    def forget_old(self, now):
+        kept = {}
+        for network, route in self.by_network.items():
+            if not route.is_forgotten(now):
+                kept[network] = route
+        self.by_network = kept
+
+    def lose_outdated(self, now):
+        for route in self.by_network.values():
+            if route.is_outdated(now):
+                route.lose(now)
+
+    def mark_unchanged(self):
+        for route in self.by_network.values():
+            route.changed = False
 
     def offer(self, network, far, link, neighbour, now):
         route = self.by_network.get(network)

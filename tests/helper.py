@@ -27,6 +27,18 @@ def hear(i, neighbour, octets):
     return [3, i, neighbour, len(octets)] + list(octets)
 
 
+def tick(now):
+    return [4, now]
+
+
+def way(address):
+    return [5, address]
+
+
+ROUTES = [6]
+DUE = [7]
+
+
 def offer(address, bits, far, rest=0):
     return list(address.to_bytes(4, "big")) + [bits, far] + list(rest.to_bytes(2, "big"))
 
@@ -39,13 +51,29 @@ def message(*offers):
     return octets
 
 
+def sent(*messages):
+    """What tick answers: each of the messages is its link, then what is told in it as (address, bits, far)."""
+    answer = [len(messages)]
+    for i, *offers in messages:
+        octets = message(*offers)
+        answer += [i, len(octets)] + octets
+    return answer
+
+
+def listed(*routes):
+    """What routes answers: each of them is (address, bits, far, link, neighbour)."""
+    return [len(routes)] + flat(routes)
+
+
 OUR = ip(10, 0, 0, 1)
 NEAR = ip(10, 0, 0, 2)
 OTHER = ip(10, 0, 0, 3)
 ACROSS = ip(10, 0, 1, 2)
 FAR_NET = (ip(172, 16), 12)
+NET_0 = (ip(10), 24)
+NET_1 = (ip(10, 0, 1), 24)
 
-# Link 0 is up in 10.0.0.0/24, with NEAR and OTHER on it; link 1 in 10.0.1.0/24, with ACROSS.
+# The time is 1000. Link 0 is up in 10.0.0.0/24, with NEAR and OTHER on it; link 1 in 10.0.1.0/24, with ACROSS.
 UP = [begin(1000), link(0, OUR, 24)]
 UP_TWO = UP + [link(1, ip(10, 0, 1, 1), 24)]
 
@@ -55,11 +83,17 @@ def flat(calls):
 
 
 def said(*calls):
-    """What begin, link, down and hear answer: one number for each of the calls."""
+    """What each of the calls answers: a list of numbers; or, where it is one alone, the number."""
     answered = answers(flat(calls))
-    if len(answered) != 2 * len(calls) or answered[::2] != [1] * len(calls):
-        raise AssertionError("not one number a call: " + repr(answered))
-    return answered[1::2]
+    found = []
+    while answered:
+        many, answer, answered = answered[0], answered[1:answered[0] + 1], answered[answered[0] + 1:]
+        if many < 1 or len(answer) != many:
+            raise AssertionError("not as many numbers as told: " + repr(answer))
+        found.append(answer[0] if many == 1 else answer)
+    if len(found) != len(calls):
+        raise AssertionError("not one answer a call: " + repr(found))
+    return found
 
 
 def said_after(start, *calls):

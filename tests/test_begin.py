@@ -3,8 +3,8 @@
 import unittest
 
 from nearroutes.session import Session
-from tests.helper import (FAR_NET, NEAR, OUR, TIME_END, TOP, UP, begin, down, hear, link, message,
-                          said, said_after, told)
+from tests.helper import (DUE, FAR_NET, NEAR, OUR, ROUTES, TIME_END, TOP, UP, begin, down, hear, link, message,
+                          said, said_after, tick, told, way)
 
 
 class Begin(unittest.TestCase):
@@ -34,13 +34,15 @@ class Begin(unittest.TestCase):
 
 class BeforeBegin(unittest.TestCase):
     def test_all_others_are_refused_till_a_begin_answers_0(self):
-        refused = [link(0, OUR, 24), down(0), told(1)]
-        self.assertEqual(said(begin(TIME_END), *refused), [-1, -6, -6, -6])
-        self.assertEqual(said(begin(TOP), begin(TIME_END), *refused), [-1, -1, -6, -6, -6])
+        refused = [link(0, OUR, 24), down(0), told(1), tick(0), way(NEAR), ROUTES, DUE]
+        self.assertEqual(said(begin(TIME_END), *refused), [-1] + [-6] * 7)
+        self.assertEqual(said(begin(TOP), begin(TIME_END), *refused), [-1, -1] + [-6] * 7)
+        self.assertEqual(said(begin(TIME_END), *refused, begin(TIME_END - 1), *refused[4:]),
+                         [-1] + [-6] * 7 + [0, -2, 0, [0, TIME_END - 1 + 30000]])
 
     def test_that_refusal_comes_before_all_others(self):
-        wrong = [link(4, 0, 0), down(4), hear(4, 0, []), hear(0, NEAR, [1, 2, 3])]
-        self.assertEqual(said(begin(TIME_END), *wrong), [-1, -6, -6, -6, -6])
+        wrong = [link(4, 0, 0), down(4), hear(4, 0, []), hear(0, NEAR, [1, 2, 3]), tick(TIME_END), way(2 ** 32)]
+        self.assertEqual(said(begin(TIME_END), *wrong), [-1] + [-6] * 6)
 
     def test_that_refusal_changes_nothing(self):
         self.assertEqual(said(begin(TIME_END), link(0, OUR, 24), begin(0), down(0), link(0, OUR, 24), told(3)),

@@ -35,6 +35,8 @@ UNUSED = set("""
     copyright credits delattr dir eval exec exit gc getattr globals hasattr help id importlib license locals
     methodcaller os quit setattr super vars sys format format_map
 """.split())
+WALKED = {"zip", "enumerate", "reversed", "range", "items", "keys", "values"}
+WALKERS = set("list tuple dict sorted sum any all enumerate zip min max join".split())
 OWN_NAMES = set(dir(__builtins__) if not isinstance(__builtins__, dict) else __builtins__)
 VALUE_NAMES = {name for kind in (int, str, list, dict, tuple, set, bytes) for name in dir(kind)}
 
@@ -49,6 +51,11 @@ def nodes(*kinds):
 
 def methods():
     return [node.name for name, top in nodes(ast.ClassDef) for node in top.body if isinstance(node, ast.FunctionDef)]
+
+
+def called(node):
+    """The name of what is called, without what it is a method of."""
+    return getattr(node.func, "attr", getattr(node.func, "id", None))
 
 
 def bound_names():
@@ -148,6 +155,28 @@ class Forms(unittest.TestCase):
             for operator, right in zip(node.ops, node.comparators):
                 if isinstance(operator, (ast.Is, ast.IsNot)):
                     self.assertIsInstance(right, ast.Constant, (name, node.lineno))
+
+    def test_numbers_and_texts(self):
+        for name, node in nodes(ast.BinOp):
+            if isinstance(node.op, ast.Pow):
+                self.assertIsInstance(node.right, ast.Constant, (name, node.lineno))
+        for name, node in nodes(ast.Constant):
+            self.assertFalse(isinstance(node.value, str) and "%" in node.value, (name, node.lineno))
+
+    def test_no_sets_and_no_annotations(self):
+        self.assertEqual(nodes(ast.Set, ast.AnnAssign), [])
+        self.assertEqual([name for name, node in nodes(ast.Call) if called(node) in ("set", "frozenset")], [])
+        self.assertEqual([name for name, node in nodes(ast.arg) if node.annotation], [])
+        self.assertEqual([name for name, node in nodes(ast.FunctionDef) if node.returns], [])
+
+    def test_walked_at_once(self):
+        for path, tree in trees():
+            walks = [node.iter for node in ast.walk(tree) if isinstance(node, (ast.For, ast.comprehension))]
+            calls = [node for node in ast.walk(tree) if isinstance(node, ast.Call)]
+            walks += [node.args[0] for node in calls if called(node) in WALKERS and node.args]
+            for node in calls:
+                if called(node) in WALKED:
+                    self.assertTrue(any(node is walk for walk in walks), (path, node.lineno))
 
 
 class Names(unittest.TestCase):
